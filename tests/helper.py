@@ -12,6 +12,9 @@ GENERAL = [1]
 ALIKE = [2]
 ORDER = [3]
 ORDERS = [4]
+DIFFER = [10]
+SWAP = [11]
+STATE = [12]
 
 
 def ratios(k, i):
@@ -20,6 +23,18 @@ def ratios(k, i):
 
 def own(k):
     return [6, k]
+
+
+def takes(u, v):
+    return [7, u, v]
+
+
+def back(u, v):
+    return [8, u, v]
+
+
+def lines(k):
+    return [9, k]
 
 
 def flat(points):
@@ -124,18 +139,50 @@ def slow_general(first, second):
     return [slow_free(first) * 1 + slow_free(second) * 2]
 
 
+def slow_lines(row):
+    found = [three for three in combinations(range(len(row)), 3) if on_a_line(*[row[number] for number in three])]
+    return [len(found)] + flat(found)
+
+
+def taken(view, point):
+    """Where the view takes the point; None if that's beyond all."""
+    s, t, w = [row[0] * point[0] + row[1] * point[1] + row[2] for row in view]
+    if w == 0:
+        return None
+    return (Fraction(s) / w, Fraction(t) / w)
+
+
 def takes_all(view, points, aims):
-    for (u, v), (x, y) in zip(points, aims):
-        s, t, w = [row[0] * u + row[1] * v + row[2] for row in view]
-        if w == 0 or s != x * w or t != y * w:
-            return False
-    return True
+    return all(taken(view, point) == aim for point, aim in zip(points, aims))
 
 
 def slow_alike(first, second):
     if not (slow_free(first[:4]) and slow_free(second[:4])):
         return [-16]
     return [1 if takes_all(view_between(first[:4], second[:4]), first, second) else 0]
+
+
+def slow_differ(first, second):
+    if not (slow_free(first[:4]) and slow_free(second[:4])):
+        return [-16]
+    view = view_between(first[:4], second[:4])
+    for number, (point, aim) in enumerate(zip(first, second)):
+        if taken(view, point) != aim:
+            return [number]
+    return [-33]
+
+
+def told_as_fractions(two):
+    return [0, two[0].numerator, two[0].denominator, two[1].numerator, two[1].denominator]
+
+
+def slow_takes(first, second, u, v):
+    if not (0 <= u <= 50 and 0 <= v <= 50):
+        return [-22]
+    if not (slow_free(first[:4]) and slow_free(second[:4])):
+        return [-16]
+    aim = taken(view_between(first[:4], second[:4]), (u, v))
+    return [-6] if aim is None else told_as_fractions(aim)
 
 
 def slow_fitting(first, second):
@@ -184,6 +231,4 @@ def slow_ratios(row, number):
     often = [x / y for x, y in zip(put_together(row[:3], row[number]), unit)]
     if often[2] == 0:
         return [-6]
-    one = often[0] / often[2]
-    two = often[1] / often[2]
-    return [0, one.numerator, one.denominator, two.numerator, two.denominator]
+    return told_as_fractions((often[0] / often[2], often[1] / often[2]))

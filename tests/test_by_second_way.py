@@ -8,10 +8,11 @@ import random
 import unittest
 
 import helper
-from helper import ALIKE, GENERAL, ORDER, ORDERS, ask_rows, own, ratios
+from helper import ALIKE, DIFFER, GENERAL, ORDER, ORDERS, STATE, ask_rows, back, lines, own, ratios, takes
 
 CALLS = [GENERAL, ALIKE, ORDER, ORDERS, own(0), own(1)]
 CALLS += [ratios(k, i) for k in (0, 1) for i in range(7)]
+QUICK_CALLS = [DIFFER, lines(0), lines(1), STATE]
 
 
 def drawn_row(source, size, most):
@@ -85,7 +86,48 @@ class SecondWay(unittest.TestCase):
             self.assertIn(kind, kinds)
 
 
+    def test_differ_lines_and_state(self):
+        source = random.Random(14)
+        kinds = set()
+        for at, (first, second) in enumerate(drawn_pairs(9, 600)):
+            if at % 3 == 0:
+                # Two drawn rows hardly ever differ at their last point alone.
+                second = found_view(source, first)[:-1] + drawn_row(source, 1, 6)
+            told = ask_rows(first, second, *QUICK_CALLS)
+            wanted = [
+                helper.slow_differ(first, second),
+                helper.slow_lines(first),
+                helper.slow_lines(second),
+                [len(first)] + helper.flat(first) + helper.flat(second),
+            ]
+            self.assertEqual(told, wanted, (first, second))
+            kinds.add(told[0][0])
+        self.assertEqual(kinds, {-33, -16, 4, 5})
+
+    def test_takes_and_back(self):
+        source = random.Random(10)
+        kinds = set()
+        for first, second in drawn_pairs(11, 200):
+            most = source.choice((3, 7, 50))
+            points = first + second + drawn_row(source, 6, most) + [(51, 0), (0, -1)]
+            for u, v in points:
+                told = ask_rows(first, second, takes(u, v), back(u, v))
+                wanted = [helper.slow_takes(first, second, u, v), helper.slow_takes(second, first, u, v)]
+                self.assertEqual(told, wanted, (first, second, u, v))
+                kinds.update((at, part[0]) for at, part in enumerate(told))
+        self.assertEqual(kinds, {(at, kind) for at in (0, 1) for kind in (-22, -16, -6, 0)})
+
+
 class WhatHolds(unittest.TestCase):
+    def test_four_tell_nothing(self):
+        tried = 0
+        for first, second in drawn_pairs(12, 800):
+            told = ask_rows(first[:4], second[:4], lines(0), lines(1), ALIKE, DIFFER, ORDERS)
+            if told[:2] == [[0], [0]]:
+                tried += 1
+                self.assertEqual(told[2:], [[1], [-33], [24]], (first, second))
+        self.assertGreater(tried, 100)
+
     def test_by_ratios(self):
         for first, second in drawn_pairs(2, 1500):
             told = ask_rows(first, second, ALIKE, *[ratios(k, i) for k in (0, 1) for i in (4, 5)])
@@ -111,10 +153,23 @@ class WhatHolds(unittest.TestCase):
         self.assertGreater(chains, 10)
 
     def test_alike_rows_have_the_same_threes_on_a_line(self):
+        with_lines = 0
         for first, second in drawn_pairs(6, 1500):
-            told = ask_rows(first, second, ALIKE, GENERAL)
+            told = ask_rows(first, second, ALIKE, GENERAL, lines(0), lines(1))
             if told[0] == [1]:
                 self.assertIn(told[1], ([0], [3]), (first, second))
+                self.assertEqual(told[2], told[3], (first, second))
+                with_lines += told[2] != [0]
+        self.assertGreater(with_lines, 50)
+
+    def test_alike_just_if_each_is_taken_to_the_one_of_its_number(self):
+        for first, second in drawn_pairs(13, 1500):
+            told = ask_rows(first, second, ALIKE, DIFFER, *[takes(*point) for point in first])
+            if told[0] == [-16]:
+                continue
+            there = [part == [0, aim[0], 1, aim[1], 1] for part, aim in zip(told[2:], second)]
+            self.assertEqual(told[0], [1 if all(there) else 0], (first, second))
+            self.assertEqual(told[1], [-33 if all(there) else there.index(False)], (first, second))
 
     def test_as_many_orders_as_to_itself(self):
         for first, second in drawn_pairs(7, 600):

@@ -36,6 +36,13 @@ class Ratios(unittest.TestCase):
         told = ask_rows(SQUARE + [(7, 3)], turned + [(3, 7)], ratios(0, 4), ratios(1, 4))
         self.assertEqual(told, [[0, -5, 3, -4, 3]] * 2)
 
+    def test_whole_by_the_least_square(self):
+        # The numbers behind the fractions are as small as can be: the third comes out at just 1 or -1.
+        least = [(0, 0), (1, 0), (0, 1), (1, 1)]
+        turned = [(0, 0), (0, 1), (1, 0), (1, 1)]
+        told = ask_rows(least + [(2, 1)], turned + [(1, 2)], ratios(0, 4), ratios(1, 4))
+        self.assertEqual(told, [[0, 2, 1, 2, 1]] * 2)
+
     def test_naught_is_0_by_1(self):
         self.assertEqual(by_square((2, 2)), [0, 0, 1, 0, 1])
         self.assertEqual(by_square((2, 7)), [0, 0, 1, 5, 7])

@@ -4,7 +4,8 @@ import contextlib
 import io
 import unittest
 
-from helper import ALIKE, GENERAL, ORDER, ORDERS, ask, flat, own, ratios, start, start_numbers
+from helper import ALIKE, DIFFER, GENERAL, ORDER, ORDERS, STATE, SWAP
+from helper import ask, back, flat, lines, own, ratios, start, start_numbers, takes
 from twothings.orders import answers
 
 SQUARE = [(0, 0), (2, 0), (2, 2), (0, 2)]
@@ -14,7 +15,14 @@ SIX = FIVE + [(50, 7)]
 LINED = [(0, 0), (1, 1), (2, 2), (0, 2)]
 LEAST = -2147483648
 MOST = 2147483647
-OTHERS = (GENERAL, ALIKE, ORDER, ORDERS, ratios(0, 4), ratios(9, 9), own(0), own(2))
+OTHERS = (
+    GENERAL, ALIKE, ORDER, ORDERS, ratios(0, 4), ratios(9, 9), own(0), own(2), takes(1, 1), takes(-1, 51),
+    back(1, 1), back(LEAST, MOST), lines(0), lines(MOST), DIFFER, SWAP, STATE,
+)
+ASKED = (
+    GENERAL, ALIKE, ORDER, ORDERS, ratios(0, 4), ratios(1, 4), own(0), own(1), takes(3, 7), back(3, 7), lines(0),
+    lines(1), DIFFER, STATE,
+)
 
 
 class Start(unittest.TestCase):
@@ -67,10 +75,6 @@ class BeforeStart(unittest.TestCase):
             self.assertEqual(ask(call), [[-11]], call)
         self.assertEqual(ask(*OTHERS), [[-11]] * len(OTHERS))
 
-    def test_calls_of_all_numbers(self):
-        calls = ([7, -1, 51], [8, LEAST, MOST], [9, 0], [10], [11], [12])
-        self.assertEqual(ask(*calls), [[-11]] * len(calls))
-
     def test_a_refused_start_is_none(self):
         told = ask(start(SQUARE, FIVE), *OTHERS)
         self.assertEqual(told, [[-22]] + [[-11]] * len(OTHERS))
@@ -90,8 +94,8 @@ class StartAgain(unittest.TestCase):
         self.assertEqual(told, [[4], [1], [4], [2], [4], [3]])
 
     def test_a_refused_one_changes_nothing(self):
-        asked = (GENERAL, ALIKE, ORDER, ORDERS, ratios(0, 4), ratios(1, 4), own(0), own(1))
-        before = ask(start(FIVE, FIVE), *asked)[1:]
+        other = KITE + [(3, 4)]
+        before = ask(start(FIVE, other), *ASKED)[1:]
         wrong = flat(KITE)
         wrong[7] = 51
         for refused in (
@@ -101,21 +105,28 @@ class StartAgain(unittest.TestCase):
             start_numbers(flat(KITE), flat(SIX)),
             start_numbers([1] * 9, [1] * 9),
         ):
-            told = ask(start(FIVE, FIVE), refused, *asked)
+            told = ask(start(FIVE, other), refused, *ASKED)
             self.assertEqual(told[1], [-22])
             self.assertEqual(told[2:], before)
 
 
 class Interface(unittest.TestCase):
     CALLS = start(FIVE, FIVE) + ALIKE + start(FIVE, SQUARE) + ORDER + ratios(1, 4) + own(1) + own(7)
+    CALLS = CALLS + takes(1, 9) + back(9, 1) + lines(0) + lines(7) + DIFFER + SWAP + STATE
 
     def test_counts_stand_ahead_of_the_answers(self):
         told = answers(start(SQUARE, KITE) + ALIKE + ORDER + ORDERS + ratios(0, 4) + own(2))
         self.assertEqual(told, [1, 4, 1, 1, 5, 4, 0, 1, 2, 3, 1, 24, 1, -2, 1, -22])
 
     def test_two_hundred_calls(self):
-        told = ask(start(SIX, SIX), *[ORDERS, own(0), ALIKE, GENERAL] * 49)
-        self.assertEqual(told[1:5] * 49, told[1:])
+        told = ask(start(SIX, SIX), SWAP, GENERAL, ALIKE, *[ORDERS, own(0), lines(0), STATE] * 49)
+        self.assertEqual(len(told), 200)
+        self.assertEqual(told[4:8] * 49, told[4:])
+
+    def test_the_longest_list(self):
+        calls = start_numbers([1] * 60, [1] * 60) * 200
+        self.assertEqual(len(calls), 24600)
+        self.assertEqual(answers(calls), [1, -22] * 200)
 
     def test_the_list_stays_and_nothing_is_kept(self):
         calls = list(self.CALLS)

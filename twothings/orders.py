@@ -11,9 +11,15 @@ ORDER = 3
 ORDERS = 4
 RATIOS = 5
 OWN = 6
+TAKES = 7
+BACK = 8
+LINES = 9
+DIFFER = 10
+SWAP = 11
+STATE = 12
 
-# How many numbers stand behind each call's number. Calls that aren't built are told here too: they are passed
-# over rightly ahead of a start. The 0 of start stands for nothing, as its rows bring their own counts.
+# How many numbers stand behind each call's number. The 0 of start stands for nothing, as its rows bring their own
+# counts.
 WIDTHS = (0, 0, 0, 0, 0, 2, 1, 2, 2, 1, 0, 0, 0)
 
 NO_POINT = -2
@@ -22,6 +28,7 @@ NOT_STARTED = -11
 NOT_GOOD = -16
 WRONG = -22
 NONE_FITS = -33
+ARE_ALIKE = -33
 
 FEWEST_POINTS = 4
 MOST_POINTS = 6
@@ -34,13 +41,20 @@ def turn(a, b, c):
     return (b[0] - a[0]) * (c[1] - a[1]) - (b[1] - a[1]) * (c[0] - a[0])
 
 
-def no_three_on_a_line(points):
-    for c in range(len(points)):
-        for b in range(c):
-            for a in range(b):
+def threes_on_a_line(points):
+    """The numbers of each three that are on a line, all in one list; the threes are rising."""
+    size = len(points)
+    found = []
+    for a in range(size):
+        for b in range(a + 1, size):
+            for c in range(b + 1, size):
                 if turn(points[a], points[b], points[c]) == 0:
-                    return False
-    return True
+                    found.extend([a, b, c])
+    return found
+
+
+def no_three_on_a_line(points):
+    return len(threes_on_a_line(points)) == 0
 
 
 def is_good(row):
@@ -51,37 +65,62 @@ def both_good(rows):
     return is_good(rows[0]) and is_good(rows[1])
 
 
-def weights(four, point):
-    """How often the point has each of the first three, so weighed that the fourth is all three together.
-
-    The three are told up to a factor, and never all 0. Each would be a determinant with the point divided by one
-    with the fourth; they are multiplied by all three divisors, to stay among whole numbers.
-    """
+def shares(four, point):
+    """How often the point has each of the first three of the four, up to a factor."""
     a = four[0]
     b = four[1]
     c = four[2]
-    fourth_by_a = turn(four[3], b, c)
-    fourth_by_b = turn(a, four[3], c)
-    fourth_by_c = turn(a, b, four[3])
+    return (turn(point, b, c), turn(a, point, c), turn(a, b, point))
+
+
+def weights(four, point):
+    """How often the point has each of the first three, so weighed that the fourth is all three together.
+
+    The three are told up to a factor, and never all 0. Each would be a share of the point divided by one of the
+    fourth; they are multiplied by all three divisors, to stay among whole numbers.
+    """
+    own = shares(four, point)
+    whole = shares(four, four[3])
     return (
-        turn(point, b, c) * fourth_by_b * fourth_by_c,
-        turn(a, point, c) * fourth_by_a * fourth_by_c,
-        turn(a, b, point) * fourth_by_a * fourth_by_b,
+        own[0] * whole[1] * whole[2],
+        own[1] * whole[0] * whole[2],
+        own[2] * whole[0] * whole[1],
     )
+
+
+def weighed(four, found):
+    """The three numbers, up to a factor, of the point that has these weights by the four."""
+    whole = shares(four, four[3])
+    u = 0
+    v = 0
+    third = 0
+    for number in range(3):
+        times = found[number] * whole[number]
+        u = u + times * four[number][0]
+        v = v + times * four[number][1]
+        third = third + times
+    return (u, v, third)
 
 
 def same_up_to_factor(s, t):
     return s[0] * t[1] == s[1] * t[0] and s[0] * t[2] == s[2] * t[0] and s[1] * t[2] == s[2] * t[1]
 
 
-def are_alike(first, second):
-    """A view keeps the weights, so they tell where a point is taken; the view itself isn't needed."""
+def first_elsewhere(first, second):
+    """The first point that isn't taken to the one of its number; how many there are, if each is.
+
+    A view keeps the weights, so they tell where a point is taken; the view itself isn't needed.
+    """
     for number in range(4, len(first)):
         here = weights(first[:4], first[number])
         there = weights(second[:4], second[number])
         if not same_up_to_factor(here, there):
-            return False
-    return True
+            return number
+    return len(first)
+
+
+def are_alike(first, second):
+    return first_elsewhere(first, second) == len(first)
 
 
 def lengthened(heads, size):
@@ -138,6 +177,15 @@ def fraction(above, below):
     return [above // divisor, below // divisor]
 
 
+def is_number_of_point(number):
+    return number >= 0 and number <= GREATEST
+
+
+def swapped(rows):
+    """The rows exchanged; none, if there are none yet."""
+    return rows[1:] + rows[:1]
+
+
 def answer_general(rows):
     total = 0
     if no_three_on_a_line(rows[0]):
@@ -192,6 +240,41 @@ def answer_ratios(rows, k, number):
     return [0] + fraction(found[0], found[2]) + fraction(found[1], found[2])
 
 
+def answer_takes(rows, u, v):
+    if not is_number_of_point(u) or not is_number_of_point(v):
+        return [WRONG]
+    if not both_good(rows):
+        return [NOT_GOOD]
+    found = weighed(rows[1][:4], weights(rows[0][:4], (u, v)))
+    if found[2] == 0:
+        return [BEYOND_ALL]
+    return [0] + fraction(found[0], found[2]) + fraction(found[1], found[2])
+
+
+def answer_lines(rows, k):
+    if k > LAST_ROW:
+        return [WRONG]
+    found = threes_on_a_line(rows[k])
+    return [len(found) // 3] + found
+
+
+def answer_differ(rows):
+    if not both_good(rows):
+        return [NOT_GOOD]
+    number = first_elsewhere(rows[0], rows[1])
+    if number == len(rows[0]):
+        return [ARE_ALIKE]
+    return [number]
+
+
+def answer_state(rows):
+    told = [len(rows[0])]
+    for row in rows:
+        for point in row:
+            told.extend([point[0], point[1]])
+    return told
+
+
 def answer(rows, call, handed):
     """What a call other than start answers; there are no rows ahead of a start that isn't refused."""
     if len(rows) == 0:
@@ -208,7 +291,18 @@ def answer(rows, call, handed):
         return answer_ratios(rows, handed[0], handed[1])
     if call == OWN:
         return answer_own(rows, handed[0])
-    raise NotImplementedError(f"call {call} is not built")
+    if call == TAKES:
+        return answer_takes(rows, handed[0], handed[1])
+    if call == BACK:
+        return answer_takes(swapped(rows), handed[0], handed[1])
+    if call == LINES:
+        return answer_lines(rows, handed[0])
+    if call == DIFFER:
+        return answer_differ(rows)
+    if call == STATE:
+        return answer_state(rows)
+    # What is left is swap: the rows are exchanged where they are kept.
+    return [0]
 
 
 def may_be_row(numbers):
@@ -217,7 +311,7 @@ def may_be_row(numbers):
     if len(numbers) < 2 * FEWEST_POINTS or len(numbers) > 2 * MOST_POINTS:
         return False
     for number in numbers:
-        if number < 0 or number > GREATEST:
+        if not is_number_of_point(number):
             return False
     return True
 
@@ -259,6 +353,8 @@ def answers(calls):
             beyond = place + 1 + WIDTHS[call]
             reply = answer(rows, call, calls[place + 1:beyond])
             place = beyond
+            if call == SWAP:
+                rows = swapped(rows)
         told.append(len(reply))
         told.extend(reply)
     return told
